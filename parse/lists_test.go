@@ -67,14 +67,17 @@ func TestPS3ManyTexts(t *testing.T) {
 	}
 }
 
-// A size that is none is refused at place 0, with no text, too.
+// A size that is none is refused at place 0 ahead of all texts, of which none is named; Same tells it as Parse does of its first text.
 func TestPS3Sizes(t *testing.T) {
 	for _, size := range noSizes {
 		wantAll(t, nil, size, nil, 0, "", api.ErrBitSize)
 		wantAll(t, []string{}, size, nil, 0, "", api.ErrBitSize)
-		wantAll(t, []string{"1", "2"}, size, nil, 0, "1", api.ErrBitSize)
-		wantAll(t, []string{"x", "1e400"}, size, nil, 0, "x", api.ErrBitSize)
+		wantAll(t, []string{"1", "2"}, size, nil, 0, "", api.ErrBitSize)
+		wantAll(t, []string{"x", "1e400"}, size, nil, 0, "", api.ErrBitSize)
+		wantAll(t, []string{"1e400", "x"}, size, nil, 0, "", api.ErrBitSize)
+		wantAll(t, texts, size, nil, 0, "", api.ErrBitSize)
 		for _, s := range texts {
+			wantAll(t, []string{s}, size, nil, 0, "", api.ErrBitSize)
 			_, err := Same(s, "1", size)
 			wantError(t, "Same", err, "Parse", s, api.ErrBitSize)
 			_, err = Same("2", s, size)
